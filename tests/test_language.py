@@ -194,6 +194,44 @@ class Subset(unittest.TestCase):
             if node.attr not in methods | attributes | METHODS:
                 self.wrong(path, node, "L18, L25")
 
+    def test_iterated_at_once(self):
+        at_once = set("list tuple dict sorted sum any all enumerate zip min max len reversed".split())
+        for path, tree in trees():
+            good = set()
+            for node in ast.walk(tree):
+                if isinstance(node, (ast.For, ast.comprehension)):
+                    good.add(node.iter)
+                elif isinstance(node, ast.Call) and isinstance(node.func, ast.Name) and node.func.id in at_once:
+                    good.update(node.args)
+                elif isinstance(node, ast.Call) and isinstance(node.func, ast.Attribute) and node.func.attr == "join":
+                    good.update(node.args)
+            for node in ast.walk(tree):
+                if isinstance(node, ast.Call) and node not in good and self.lazy(node.func):
+                    self.wrong(path, node, "L23")
+
+    def lazy(self, call):
+        if isinstance(call, ast.Name):
+            return call.id in ("range", "zip", "enumerate", "reversed")
+        return isinstance(call, ast.Attribute) and call.attr in ("items", "keys", "values")
+
+    def test_sets(self):
+        methods = {part.name for _, node in nodes(ast.ClassDef) for part in node.body if isinstance(part, ast.FunctionDef)}
+        self.assertEqual(methods & {"add", "discard"}, set(), "L24")
+        for path, node in nodes(ast.FunctionDef):
+            stored = [part.targets[0].id for part in ast.walk(node) if isinstance(part, ast.Assign) and self.is_set(part.value)]
+            self.assertEqual(len(stored), len(set(stored)), "L24")
+            for part in ast.walk(node):
+                if isinstance(part, (ast.For, ast.comprehension)):
+                    if self.is_set(part.iter) or isinstance(part.iter, ast.Name) and part.iter.id in stored:
+                        self.wrong(path, node, "L24")
+                if isinstance(part, ast.Return) and isinstance(part.value, ast.Name) and part.value.id in stored:
+                    self.wrong(path, part, "L24")
+
+    def is_set(self, thing):
+        if isinstance(thing, (ast.Set, ast.SetComp)):
+            return True
+        return isinstance(thing, ast.Call) and isinstance(thing.func, ast.Name) and thing.func.id == "set"
+
     def test_comparisons_and_handlers(self):
         for path, node in nodes(ast.Compare):
             for sign, side in zip(node.ops, node.comparators):

@@ -4,12 +4,17 @@ import ast
 import copy
 import itertools
 import pathlib
+import random
 import unittest
 
 from hodman.days import finish, holding, working
+from hodman.judge import first_bad, lines_of, needed, shows
 from hodman.plans import broken, end_of, moved, table
+from hodman.rules import bears
+from hodman.sayings import holds, line, opposite
+from hodman.search import search
 from hodman.yards import is_yard, make_yard
-from tests.helper import BEYOND, FAR, chance_yard, full_yard, refusal, told
+from tests.helper import BEYOND, FAR, chance_ask, chance_reason, chance_yard, full_yard, refusal, small_yard, told
 
 PACKAGE = pathlib.Path(__file__).resolve().parent.parent / "hodman"
 
@@ -39,6 +44,23 @@ class Order(unittest.TestCase):
             self.assertEqual(told(call, (0, (), (), (), ()), [(FAR, FAR)])[0], "BadYard")
             self.assertEqual(told(call, (1, (), (), (), ()), [(FAR, FAR)])[0], "BadPlan")
 
+    def test_the_yard_ahead_of_all_else(self):
+        ask = {"bound": FAR, "kept": ((FAR, FAR),), "most": FAR}
+        good = (1, (), (), (), ())
+        for part, at, yard in (
+            ("days", 0, (21, (), (), (), ())), ("shut", 0, (1, (1,), (), (), ())), ("stuffs", 0, (1, (), ((),), (), ())),
+            ("works", 0, (1, (), (), ((0, 2, ()),), ())), ("ties", 0, (1, (), (), (), ((0, 0, 1, 0),))),
+        ):
+            want = ("BadYard", {"part": part, "at": at, "word": "badyard"})
+            self.assertEqual(told(opposite, yard, ("", FAR, FAR)), want)
+            self.assertEqual(told(line, yard, [("", FAR, FAR)]), want)
+            self.assertEqual(told(holds, yard, [(FAR, FAR)], [("", FAR, FAR)]), want)
+            self.assertEqual(told(bears, yard, (), **ask), want)
+            for call in (first_bad, shows, lines_of):
+                self.assertEqual(told(call, yard, [((), ())], **ask), want)
+            self.assertEqual(told(search, yard, **ask), want)
+        self.assertEqual(told(search, good, **ask)[0], "BadBound")
+
 
 class Asking(unittest.TestCase):
     def answers(self, yard):
@@ -53,6 +75,29 @@ class Asking(unittest.TestCase):
                 out += [working(yard, work, 0, day), finish(yard, work, 0, day=day)]
                 out += [holding(yard, work, 0, day, stuff, first=1) for stuff in range(len(yard[2]))]
         return out
+
+    def lines(self, yard, seed):
+        """What is told of an ask, and of the same reasons and log for the same seed."""
+        chance = random.Random(seed)
+        ask = chance_ask(chance, yard)
+        out = []
+        log = search(yard, **ask)[1] or []
+        for reason in [chance_reason(chance, yard, ask) for _ in range(5)]:
+            if told(bears, yard, reason, **ask) is None:
+                log = [(bears(yard, reason, **ask), reason)]
+                out.append(list(log[0][0]))
+        out += [search(yard, **ask), needed(log), shows(yard, log, **ask), first_bad(yard, log, **ask)]
+        out.append(told(lines_of, yard, log, **ask) or lines_of(yard, log, **ask))
+        return out
+
+    def test_lines_and_logs_tell_alike(self):
+        for seed in range(60):
+            yard = small_yard(seed)
+            first = self.lines(yard, seed)
+            for thing in self.lines(yard, seed):
+                if isinstance(thing, list):
+                    thing.append(77)
+            self.assertEqual(self.lines(copy.deepcopy(yard), seed), first)
 
     def test_changes_nothing_and_tells_alike(self):
         for seed in range(60):
