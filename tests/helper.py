@@ -24,6 +24,16 @@ def told(call, *things, **named):
     return (error.__class__.__name__, dict(vars(error)))
 
 
+def spoil(thing):
+    """Changes all lists in what was told."""
+    if isinstance(thing, (list, tuple)):
+        for part in thing:
+            spoil(part)
+    if isinstance(thing, list):
+        thing.append("more")
+        thing.reverse()
+
+
 def full_yard():
     """A yard that is as great as may be in every part."""
     way = (9, 1, (9, 0, 9))
@@ -380,3 +390,277 @@ def chance_rows(chance, yard, odd):
     if odd:
         chance.shuffle(rows)
     return tuple(rows)
+
+
+def log_faults(yard, log, **ask):
+    """What is wrong of a log that is to show that the ask has no plan, by [14] and [16]; the empty list for nothing."""
+    faults = []
+    if not isinstance(log, list) or not log:
+        return ["no rows"]
+    bad = plain_first_bad(yard, log, **ask)
+    if bad is not None:
+        faults.append(f"row {bad} is not right")
+    if [at for at, (line, _) in enumerate(log) if line == ()] != [len(log) - 1]:
+        faults.append("not the last line alone is empty")
+    telling = {number for _, reason in log if reason[:1] == ("led",) for number in reason[1:]}
+    if telling != set(range(len(log) - 1)):
+        faults.append("a row is not told by a later one")
+    return faults
+
+
+def plain_moves(plan, kept):
+    """How many kept works move."""
+    return len([1 for pair, keep in zip(plan, kept) if keep is not None and keep != pair])
+
+
+class Refused(Exception):
+    """What the plain second telling refuses with: a class's name and its fields."""
+
+    def __init__(self, error, **fields):
+        super().__init__(error)
+        self.told = (error, {**fields, "word": error.lower()})
+
+
+def plain_name(text):
+    return len(text) in range(1, 9) and set(text) <= set("abcdefghijklmnopqrstuvwxyz")
+
+
+THINGS = {
+    "stuff": 3, "stock": 4, "gone": 2, "work": 3, "drop": 2, "tie": 5, "cut": 2, "shut": 2, "unshut": 2, "wait": 3,
+    "begun": 3, "any": 2, "keep": 1, "forget": 1,
+}
+
+
+class PlainFacts:
+    """What stands in a book, told a second time from the document's words."""
+
+    def __init__(self, days):
+        self.days, self.shut, self.number = days, set(), 1
+        self.stuffs, self.works, self.ties, self.kept = {}, {}, {}, {}
+
+    def do(self, deed, plan):
+        """Does a deed; plan is asked, if it must be, for the rows of the plan, or None."""
+        if len(deed) == 0 or THINGS.get(deed[0]) != len(deed):
+            raise Refused("BadDeed")
+        return getattr(self, "do_" + deed[0])(*deed[1:], *([plan] if deed[0] == "keep" else []))
+
+    def refuse(self, due, error, **fields):
+        if due:
+            raise Refused(error, **fields)
+
+    def must_be_free(self, name, rows):
+        self.refuse(not plain_name(name), "BadName")
+        self.refuse(name in rows, "Taken", name=name)
+
+    def must_be_work(self, name):
+        self.refuse(name not in self.works, "NoWork", name=name)
+
+    def must_be_day(self, day):
+        self.refuse(day not in range(self.days), "BadDay", day=day)
+
+    def do_stuff(self, name, many):
+        self.must_be_free(name, self.stuffs)
+        self.refuse(many not in range(10), "BadMany")
+        self.refuse(len(self.stuffs) == 3, "Full", most=3)
+        self.stuffs[name] = [many for _ in range(self.days)]
+
+    def do_stock(self, name, day, many):
+        self.refuse(name not in self.stuffs, "NoStuff", name=name)
+        self.must_be_day(day)
+        self.refuse(many not in range(10), "BadMany")
+        self.stuffs[name][day] = many
+
+    def do_gone(self, name):
+        self.refuse(name not in self.stuffs, "NoStuff", name=name)
+        for work in sorted(self.works):
+            for _, _, needs in self.works[work][2]:
+                self.refuse(name in dict(needs), "Held", name=work)
+        del self.stuffs[name]
+
+    def do_work(self, name, ways):
+        self.must_be_free(name, self.works)
+        self.refuse(not ways, "BadWays", at=0)
+        for at, way in enumerate(ways):
+            self.refuse(at == 3 or not self.good_way(*way), "BadWays", at=at)
+        for _, _, needs in ways:
+            for stuff, _ in needs:
+                self.refuse(stuff not in self.stuffs, "NoStuff", name=stuff)
+        self.refuse(len(self.works) == 6, "Full", most=6)
+        self.works[name] = [0, self.days, ways]
+
+    def good_way(self, *things):
+        if len(things) != 3 or things[0] not in range(1, 10) or things[1] not in (0, 1):
+            return False
+        for need in things[2]:
+            if len(need) != 2 or not plain_name(need[0]) or need[1] not in range(1, 10):
+                return False
+        names = [name for name, _ in things[2]]
+        return names == sorted(set(names))
+
+    def do_drop(self, name):
+        self.must_be_work(name)
+        for number in sorted(self.ties):
+            self.refuse(name in self.ties[number][1:3], "Tied", number=number)
+        del self.works[name]
+        self.kept.pop(name, None)
+
+    def do_tie(self, kind, one, other, gap):
+        self.must_be_work(one)
+        self.must_be_work(other)
+        self.refuse(one == other, "Same")
+        self.refuse(kind not in (0, 1) or gap not in range(-20, 21), "BadGap")
+        self.refuse(len(self.ties) == 12, "Full", most=12)
+        self.ties[self.number] = (kind, one, other, gap)
+        self.number += 1
+        return self.number - 1
+
+    def do_cut(self, number):
+        self.refuse(number not in self.ties, "NoTie", name=number)
+        del self.ties[number]
+
+    def do_shut(self, day):
+        self.must_be_day(day)
+        self.shut.add(day)
+
+    def do_unshut(self, day):
+        self.must_be_day(day)
+        self.shut.discard(day)
+
+    def do_wait(self, name, day):
+        self.must_be_work(name)
+        self.must_be_day(day)
+        self.works[name][:2] = [day, self.days]
+
+    def do_begun(self, name, day):
+        self.must_be_work(name)
+        self.must_be_day(day)
+        self.works[name][:2] = [day, day + 1]
+
+    def do_any(self, name):
+        self.must_be_work(name)
+        self.works[name][:2] = [0, self.days]
+
+    def do_keep(self, plan):
+        rows = plan()
+        self.refuse(rows is None, "NoPlan")
+        self.kept = {name: (begin, way) for name, begin, way in rows}
+
+    def do_forget(self):
+        self.kept = {}
+
+    def yard(self):
+        names, stuffs = sorted(self.works), sorted(self.stuffs)
+        works = []
+        for name in names:
+            low, high, ways = self.works[name]
+            plain = [(long, rests, tuple([dict(needs).get(stuff, 0) for stuff in stuffs])) for long, rests, needs in ways]
+            works.append((low, high, tuple(plain)))
+        ties = []
+        for number in sorted(self.ties):
+            kind, one, other, gap = self.ties[number]
+            ties.append((kind, names.index(one), names.index(other), gap))
+        rows = tuple([tuple(self.stuffs[name]) for name in stuffs])
+        return (self.days, tuple(sorted(self.shut)), rows, tuple(works), tuple(ties))
+
+    def all(self):
+        """All that a book tells but of its plan and its steps."""
+        kept = [(name, *self.kept[name]) for name in sorted(self.kept)]
+        return {
+            "days": self.days, "shut": sorted(self.shut),
+            "stuffs": [(name, list(self.stuffs[name])) for name in sorted(self.stuffs)],
+            "works": [(name, *self.works[name]) for name in sorted(self.works)],
+            "ties": [(number, *self.ties[number]) for number in sorted(self.ties)],
+            "kept": kept or None, "yard": self.yard(),
+        }
+
+
+def all_of(book):
+    """All that a book tells but of its plan and its steps."""
+    return {
+        "days": book.days(), "shut": book.shut(), "stuffs": book.stuffs(), "works": book.works(), "ties": book.ties(),
+        "kept": book.kept(), "yard": book.yard(),
+    }
+
+
+def kept_of_book(book):
+    """What is kept of each work, as an ask takes it."""
+    rows = {name: (begin, way) for name, begin, way in book.kept() or []}
+    return tuple([rows.get(row[0]) for row in book.works()])
+
+
+def answers_of(book):
+    """All that a book tells of its plan; the log of NoPlan alone where there is none."""
+    error = refusal(book.plan)
+    if error is not None:
+        return error.log
+    return (book.plan(), book.end(), book.moves(), book.sooner(), book.fewer())
+
+
+def answer_faults(book):
+    """What is wrong of what a book tells of its plan, by its logs and a plain judge; the empty list for nothing."""
+    yard, kept, names = book.yard(), kept_of_book(book), [row[0] for row in book.works()]
+    answer = answers_of(book)
+    if isinstance(answer, list):
+        return log_faults(yard, answer)
+    rows, end, moves, sooner, fewer = answer
+    plan = [(begin, way) for _, begin, way in rows]
+    faults = []
+    if [row[0] for row in rows] != names or plain_broken(yard, plan) is not None or plain_end(yard, plan) != end:
+        faults.append("no plan of the end")
+    if moves != [name for name, pair, keep in zip(names, plan, kept) if keep is not None and keep != pair]:
+        faults.append("other moves")
+    if not names or not moves:
+        faults += [thing for thing, log, count in (("sooner", sooner, names), ("fewer", fewer, moves)) if log and not count]
+    if names:
+        faults += log_faults(yard, sooner, bound=end - 1)
+    if moves:
+        faults += log_faults(yard, fewer, bound=end, kept=kept, most=len(moves) - 1)
+    return faults
+
+
+WORK_NAMES = ("ox", "a", "wall", "abcdefgh", "z", "mason", "dig", "cart")
+STUFF_NAMES = ("a", "wood", "ox", "stonesab", "z")
+ODD_NAMES = ("", "abcdefghi", "Ox", "o x", "ox1", "a-b", "\xe4")
+
+
+def chance_deed(chance, book):
+    """A deed by chance that often can be done, and is often a little wrong."""
+    odd = chance.random() < 0.15
+    works = [row[0] for row in book.works()] or ["ox"]
+    stuffs = [row[0] for row in book.stuffs()] or ["wood"]
+
+    def number(low, high):
+        return chance.choice((low - 1, high + 1, FAR, -FAR)) if odd and chance.random() < 0.5 else chance.randint(low, high)
+
+    def name(there, pool):
+        return chance.choice(pool + ODD_NAMES) if odd and chance.random() < 0.5 else chance.choice(there)
+
+    work, stuff, day = name(works, WORK_NAMES), name(stuffs, STUFF_NAMES), number(0, book.days() - 1)
+    deed = chance.choice((
+        ("stuff", name(STUFF_NAMES, STUFF_NAMES), number(0, 9)), ("stock", stuff, day, number(0, 9)), ("gone", stuff),
+        ("work", name(WORK_NAMES, WORK_NAMES), chance_ways(chance, stuffs, odd)),
+        ("work", name(WORK_NAMES, WORK_NAMES), chance_ways(chance, stuffs, odd)),
+        ("work", name(WORK_NAMES, WORK_NAMES), chance_ways(chance, stuffs, odd)), ("drop", work),
+        ("tie", number(0, 1), work, name(works, WORK_NAMES), number(-3, 1)),
+        ("tie", number(0, 1), work, name(works, WORK_NAMES), number(-20, -3)),
+        ("cut", number(1, max([row[0] for row in book.ties()], default=1))), ("shut", day), ("unshut", day),
+        ("wait", work, day), ("begun", work, day), ("any", work), ("keep",), ("keep",), ("forget",),
+    ))
+    if odd and chance.random() < 0.2:
+        deed = chance.choice(((), deed[:-1], (*deed, 1), ("other", *deed[1:]), ("", *deed[1:])))
+    return deed
+
+
+def chance_ways(chance, stuffs, odd):
+    ways = []
+    for _ in range(chance.choice((0, 4, 5)) if odd and chance.random() < 0.3 else chance.randint(1, 3)):
+        names = sorted([name for name in stuffs if chance.random() < 0.6])
+        needs = [(name, chance.randint(1, 5)) for name in names]
+        if odd and chance.random() < 0.3:
+            needs = chance.choice(([("nothere", 1)], needs[::-1], needs * 2, [("Ox", 1)], [("a", 0)], [("a", 10)], [("a",)]))
+        long, rests = chance.choice((1, 1, 2, 2, 3)), chance.randint(0, 1)
+        if odd and chance.random() < 0.2:
+            long, rests = chance.choice(((0, 0), (10, 0), (1, 2), (1, -1), (FAR, 0), (1, -FAR)))
+        way = (long, rests, tuple(needs))
+        ways.append((*way, 0) if odd and chance.random() < 0.05 else way)
+    return tuple(ways)

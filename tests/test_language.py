@@ -194,6 +194,42 @@ class Subset(unittest.TestCase):
             if node.attr not in methods | attributes | METHODS:
                 self.wrong(path, node, "L18, L25")
 
+    def test_with_own_equality(self):
+        """What a class with __eq__ and __len__ bars all through the package."""
+        for path, node in nodes(ast.Attribute):
+            if node.attr == "sort":
+                self.wrong(path, node, "L25")
+        own = {node.name for _, node in nodes(ast.ClassDef)}
+        for path, node in nodes(ast.ExceptHandler):
+            caught = node.type.elts if isinstance(node.type, ast.Tuple) else [node.type]
+            if not {name.id for name in caught} <= own:
+                self.wrong(path, node, "L19")
+        for path, node in nodes(ast.FunctionDef):
+            if node.name in ("__eq__", "__len__", "__repr__"):
+                rows = [row for row in node.body if not isinstance(row, ast.Expr)]
+                self.assertEqual([type(row) for row in rows], [ast.Return], "L28")
+
+    def test_handlers_and_finally(self):
+        for path, node in nodes(ast.FunctionDef):
+            names = [part.name for part in ast.walk(node) if isinstance(part, ast.ExceptHandler) and part.name]
+            bound = [part.id for part in ast.walk(node) if isinstance(part, ast.Name) and isinstance(part.ctx, ast.Store)]
+            bound += [part.arg for part in ast.walk(node) if isinstance(part, ast.arg)]
+            if len(names) != len(set(names)) or set(names) & set(bound):
+                self.wrong(path, node, "L19")
+        for path, node in nodes(ast.Try):
+            for row in node.finalbody:
+                if not isinstance(row, ast.Assign) or not isinstance(row.value, (ast.Constant, ast.Name, ast.Attribute)):
+                    self.wrong(path, row, "L6")
+
+    def test_stars(self):
+        for path, node in nodes(ast.Set):
+            if any(isinstance(part, ast.Starred) for part in node.elts):
+                self.wrong(path, node, "L7")
+        for path, node in nodes(ast.Call):
+            for part in node.args:
+                if isinstance(part, ast.Starred) and not isinstance(part.value, ast.Name):
+                    self.wrong(path, node, "L7")
+
     def test_iterated_at_once(self):
         at_once = set("list tuple dict sorted sum any all enumerate zip min max len reversed".split())
         for path, tree in trees():

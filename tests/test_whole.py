@@ -1,4 +1,4 @@
-"""[1], what holds of the whole program, as far as its modules go."""
+"""[1], what holds of the whole program."""
 
 import ast
 import copy
@@ -7,12 +7,16 @@ import pathlib
 import random
 import unittest
 
+from hodman.book import Book
 from hodman.days import finish, holding, working
+from hodman.desk import Desk
 from hodman.judge import first_bad, lines_of, needed, shows
+from hodman.pages import deed_text, page, read_deed, read_page
 from hodman.plans import broken, end_of, moved, table
 from hodman.rules import bears
 from hodman.sayings import holds, line, opposite
 from hodman.search import search
+from hodman.soonest import fewest, rooms, soonest
 from hodman.yards import is_yard, make_yard
 from tests.helper import BEYOND, FAR, chance_ask, chance_reason, chance_yard, full_yard, refusal, small_yard, told
 
@@ -59,7 +63,13 @@ class Order(unittest.TestCase):
             for call in (first_bad, shows, lines_of):
                 self.assertEqual(told(call, yard, [((), ())], **ask), want)
             self.assertEqual(told(search, yard, **ask), want)
+            self.assertEqual(told(soonest, yard), want)
+            self.assertEqual(told(fewest, yard, ask["kept"], bound=FAR), want)
+            self.assertEqual(told(rooms, yard, bound=FAR), want)
         self.assertEqual(told(search, good, **ask)[0], "BadBound")
+        self.assertEqual(told(fewest, good, ask["kept"], bound=FAR)[0], "BadBound")
+        self.assertEqual(told(fewest, good, ask["kept"])[0], "BadKept")
+        self.assertEqual(told(rooms, good, bound=FAR)[0], "BadBound")
 
 
 class Asking(unittest.TestCase):
@@ -134,6 +144,63 @@ class Asking(unittest.TestCase):
     def test_truths_are_true_and_false(self):
         self.assertIs(is_yard(full_yard()), True)
         self.assertIs(is_yard((0, (), (), (), ())), False)
+
+
+TALK = (
+    "stuff wood 3;stuff a 2", "work ox 2r+a*1/3", "work wall 1+wood*2;shut 1", "tie 1 ox wall -1", "keep", "begun wall 4", "undo",
+    "wait ox 2", "shut 99", "cut 1;cut 1", "what",
+)
+
+
+class Apart(unittest.TestCase):
+    """Objects made apart have nothing to do with one another, and what stands alike tells alike."""
+
+    def test_desks_and_books(self):
+        first, second, third = Desk(), Desk(), Desk(book=Book())
+        for line in TALK:
+            answer = first.say(line)
+            self.assertEqual((second.book(), second.book().steps()), (Book(), []))
+            self.assertEqual(third.say(line), answer)
+            self.assertEqual(first.book(), third.book())
+        for line in ("plan", "end", "moves", "kept", "works", "stuffs", "ties", "shut"):
+            self.assertEqual(first.say(line), third.say(line))
+        other = read_page(page(first.book()))
+        self.assertEqual((other.sooner(), other.fewer()), (first.book().sooner(), first.book().fewer()))
+        self.assertEqual(second.book(), Book())
+
+    def test_as_the_functions_tell(self):
+        desk = Desk()
+        for line in TALK:
+            desk.say(line)
+        book = desk.book()
+        kept = tuple([row[1:] for row in book.kept()])
+        end, plan, log = soonest(book.yard())
+        self.assertEqual((book.end(), book.sooner()), (end, log))
+        many, plan, log = fewest(book.yard(), kept)
+        self.assertEqual((len(book.moves()), [row[1:] for row in book.plan()], book.fewer()), (many, plan, log))
+
+    def test_numbers_of_many_figures(self):
+        book = Book()
+        book.all_or_none([("stuff", "wood", 1), ("work", "ox", ((1, 0, ()),)), ("work", "a", ((1, 0, ()),))])
+        before = (book.twin(), book.steps())
+        for far in BEYOND:
+            for deed, name in (
+                (("stuff", "new", far), "BadMany"), (("stock", "wood", far, far), "BadDay"), (("stock", "wood", 0, far), "BadMany"),
+                (("work", "new", ((far, far, ()),)), "BadWays"), (("work", "new", ((1, 0, (("wood", far),)),)), "BadWays"),
+                (("tie", far, "ox", "a", far), "BadGap"), (("cut", far), "NoTie"), (("shut", far), "BadDay"),
+                (("unshut", far), "BadDay"), (("wait", "ox", far), "BadDay"), (("begun", "ox", far), "BadDay"),
+            ):
+                self.assertEqual(told(book.do, deed)[0], name)
+            self.assertEqual(told(Book, days=far)[0], "BadDay")
+            self.assertEqual(told(read_page, f"days {far}\n")[0], "BadText")
+            self.assertEqual(told(read_deed, f"cut {far}")[0], "BadText")
+            self.assertEqual(Desk(book=book).say(f"cut {far}"), "what")
+        self.assertEqual((book, book.steps()), before)
+
+    def test_texts_tell_alike(self):
+        for text in ("work ox 3r+stone*1+wood*2/2", "tie 1 ox wall -20", "keep"):
+            self.assertEqual(read_deed(text), read_deed(text))
+            self.assertEqual(deed_text(read_deed(text)), text)
 
 
 class Outside(unittest.TestCase):
